@@ -11,22 +11,22 @@ func plainBrakes() impl.Brakes {
 	return impl.Brakes{Soft: 13, Hard: 37, Delay: 2, Acc: 5, Warn: 4}
 }
 
-// brakesBound names a bound of one field; beyond is the step that passes it.
-type brakesBound struct {
+// edge names a bound of one field; beyond is the step that passes it.
+type edge[T any] struct {
 	name   string
-	set    func(b *impl.Brakes, n int)
+	set    func(of *T, n int)
 	bound  int
 	beyond int
 }
 
-func brakesBounds() []brakesBound {
+func brakesBounds() []edge[impl.Brakes] {
 	soft := func(b *impl.Brakes, n int) { b.Soft, b.Hard = n, max(n, b.Hard) }
 	softUpToHard := func(b *impl.Brakes, n int) { b.Soft = n }
 	hard := func(b *impl.Brakes, n int) { b.Hard = n }
 	delay := func(b *impl.Brakes, n int) { b.Delay = n }
 	acc := func(b *impl.Brakes, n int) { b.Acc = n }
 	warn := func(b *impl.Brakes, n int) { b.Warn = n }
-	return []brakesBound{
+	return []edge[impl.Brakes]{
 		{"least Soft", soft, 10, -1},
 		{"most Soft", soft, 1000, 1},
 		{"Soft up to Hard", softUpToHard, plainBrakes().Hard, 1},
