@@ -322,7 +322,7 @@ func narrowTrains() []reckoned {
 	return all
 }
 
-// narrowFelts are all that can be felt close to the end of a leash.
+// narrowFelts are close to the end of a leash: each speed and each end there, at some places and limits.
 func narrowFelts(yield func(f impl.Felt) bool) {
 	for _, high := range []int{0, 7, 40} {
 		for end := -1; end <= 50; end++ {
@@ -339,7 +339,7 @@ func narrowFelts(yield func(f impl.Felt) bool) {
 	}
 }
 
-func TestP2EveryNarrowTick(t *testing.T) {
+func TestP2NarrowTicks(t *testing.T) {
 	for _, r := range narrowTrains() {
 		for f := range narrowFelts {
 			for state := impl.GFree; state <= impl.GHard; state++ {

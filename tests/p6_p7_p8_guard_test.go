@@ -25,7 +25,7 @@ func TestP6KeepsToItFromEveryState(t *testing.T) {
 	}
 }
 
-func TestP6EveryNarrowTick(t *testing.T) {
+func TestP6NarrowTicks(t *testing.T) {
 	free := 0
 	for _, r := range narrowTrains() {
 		for f := range narrowFelts {
@@ -72,7 +72,7 @@ func TestP7EachOfTheThree(t *testing.T) {
 	}
 }
 
-func TestP7EveryNarrowTick(t *testing.T) {
+func TestP7NarrowTicks(t *testing.T) {
 	left := 0
 	for _, r := range narrowTrains() {
 		for f := range narrowFelts {
@@ -127,7 +127,7 @@ func gentler(f impl.Felt, leash, slower, nearer int) impl.Felt {
 	return f
 }
 
-func TestP8EveryNarrowTick(t *testing.T) {
+func TestP8NarrowTicks(t *testing.T) {
 	held := 0
 	for _, r := range narrowTrains() {
 		for f := range narrowFelts {
